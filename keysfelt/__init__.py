@@ -1,0 +1,1 @@
+"""Keysfelt: keys on a ring, found by feel."""

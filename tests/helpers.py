@@ -1,0 +1,89 @@
+"""What several tests need: wrong arguments, and slow, plain answers to compare with."""
+
+from itertools import product
+
+from keysfelt.errors import FeelError
+
+# A value nested sixty deep, as deep as any value can be.
+DEEP_TUPLE = ()
+DEEP_LIST = []
+for _ in range(59):
+    DEEP_TUPLE = (DEEP_TUPLE,)
+    DEEP_LIST = [DEEP_LIST]
+
+ANY_VALUES = [
+    None, True, False, -7, 10 ** 40, "", "ring", "key ", "Hold", [], {}, {0: 1}, [0, 1], [(0, ())],
+    {"key": ()}, (None,), (True,), ((0, 1),), ("right",), ("right", ()), FeelError(), (FeelError(),),
+    DEEP_TUPLE, DEEP_LIST,
+]
+
+WRONG_RINGS = [value for value in ANY_VALUES] + [
+    (), 0, (0,) * 10, (9,), (-1,), (0, 9), (0, -1, 0), (0, True), (False, 0), (0, "1"), (0, None),
+    [0], [0, 1, 2], "012", ((0,), 1), (0, (1,)), (0, [1]),
+]
+
+WRONG_AIMS = [value for value in ANY_VALUES] + [
+    0, 1, "KEY", "keys", "k", "holds", "hold\n", ("key",), ["key"], ["hold"], {"key"}, b"key",
+]
+
+
+def wrong_holds(many):
+    """Values that are no holds of a ring with so many keys."""
+    return ANY_VALUES + [
+        (), (0,), 0, (0, 1, 1), (many, 1), (-1, 1), (0, 0), (0, 2), (0, -2), (True, 1), (False, 1),
+        (0, True), (0, False), [0, 1], ([0], 1), ("0", 1), (0, "1"), (0, None), ((0, 1),), ((0, 1), 1),
+    ]
+
+
+def wrong_keys(many):
+    """Values that are no keys of a ring with so many keys."""
+    return ANY_VALUES + [-1, many, many + 1, "0", "a", (0,), [0], (0, 1)]
+
+
+def all_rings(keys, shapes):
+    """All rings of so many keys with shapes below shapes."""
+    return list(product(range(shapes), repeat=keys))
+
+
+def small_rings():
+    """Rings of 1 to 5 keys with three shapes, and of 6 keys with two."""
+    rings = all_rings(6, 2)
+    for keys in range(1, 6):
+        rings += all_rings(keys, 3)
+    return rings
+
+
+NINE_KEYS = [
+    (0,) * 9, (0, 1, 2) * 3, (0, 1, 2, 3, 4, 5, 6, 7, 8), (8, 0, 0, 0, 0, 0, 0, 0, 0),
+    (0, 0, 0, 0, 0, 0, 0, 1, 2), (0, 1, 0, 0, 1, 1, 0, 1, 2), (0, 0, 1, 0, 0, 0, 1, 0, 1),
+    (0, 1, 2, 3, 4, 4, 3, 2, 1),
+]
+
+
+def holds_of(ring):
+    return sorted((key, way) for way in (1, -1) for key in range(len(ring)))
+
+
+def row_of(ring, hold, many):
+    """What is felt, step by step round the ring."""
+    at, way = hold
+    row = []
+    for _ in range(many):
+        row.append(ring[at])
+        at += way
+        if at == len(ring):
+            at = 0
+        elif at < 0:
+            at = len(ring) - 1
+    return tuple(row)
+
+
+def are_alike(ring, one, other):
+    """Whether two holds feel alike, asked of far more than one round."""
+    return row_of(ring, one, 40) == row_of(ring, other, 40)
+
+
+def must_differ(aim, one, other):
+    if aim == "key":
+        return one[0] != other[0]
+    return one != other
