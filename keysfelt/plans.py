@@ -73,7 +73,7 @@ class Moving:
 
 
 def depth_of(ring, aim, value):
-    """The greatest number of keys felt behind the first one by a plan, None if value is none."""
+    """The greatest number of keys felt behind the first one by a plan, None if value is no such plan."""
     check_ring(ring)
     check_aim(aim)
     return most_steps(Feeling(ring, aim), value)
@@ -94,7 +94,7 @@ def plan(ring, aim):
 
 
 def moves_of(ring, key, value):
-    """The greatest number of moves by a plan for the wanted key, None if value is none."""
+    """The greatest number of moves by a plan for the wanted key, None if value is no such plan."""
     check_ring(ring)
     check_key(ring, key)
     return most_steps(Moving(ring, key), value)
