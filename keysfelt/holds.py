@@ -62,12 +62,17 @@ def are_apart(one, other, aim):
     return one != other
 
 
+def pairs_apart(ring, aim):
+    """The ascending list of the pairs of holds, the first one less, that differ in the aim."""
+    holds = all_holds(ring)
+    pairs = [(one, other) for at, one in enumerate(holds) for other in holds[at + 1:]]
+    return [(one, other) for one, other in pairs if are_apart(one, other, aim)]
+
+
 def least_pair(ring, aim, many):
     """The least tuple of two holds that differ in the aim and feel alike for so many keys, or None."""
-    holds = all_holds(ring)
-    rows = {hold: row_felt(ring, hold, many) for hold in holds}
-    for at, one in enumerate(holds):
-        for other in holds[at + 1:]:
-            if are_apart(one, other, aim) and rows[one] == rows[other]:
-                return (one, other)
+    rows = {hold: row_felt(ring, hold, many) for hold in all_holds(ring)}
+    for one, other in pairs_apart(ring, aim):
+        if rows[one] == rows[other]:
+            return (one, other)
     return None

@@ -35,6 +35,20 @@ def wrong_holds(many):
     ]
 
 
+def wrong_numbers(low, high):
+    """Values that are no integers from low to high."""
+    return ANY_VALUES + [low - 1, high + 1, str(low), (low,), [low], {low: low}]
+
+
+def wrong_rows(fewest, most):
+    """Values that are no tuples of so many shapes, from fewest to most of them."""
+    wrong = [value for value in ANY_VALUES if value != ()] + [0, "0" * most, [0] * most]
+    wrong += [(0,) * (most + 1)] + [(0,) * many for many in range(fewest)]
+    for value in (-1, 9, True, False, None, "0", (0,), [0], 10 ** 40) if most > 0 else ():
+        wrong += [(value,) + (0,) * (most - 1), (0,) * (most - 1) + (value,)]
+    return wrong
+
+
 def wrong_keys(many):
     """Values that are no keys of a ring with so many keys."""
     return ANY_VALUES + [-1, many, many + 1, "0", "a", (0,), [0], (0, 1)]
@@ -87,3 +101,21 @@ def must_differ(aim, one, other):
     if aim == "key":
         return one[0] != other[0]
     return one != other
+
+
+def turned_and_flipped(row):
+    """All that a row becomes by turning and flipping, as often as it does."""
+    rows = []
+    for way in (list(row), list(row)[::-1]):
+        for _ in row:
+            way = way[1:] + way[:1]
+            rows.append(tuple(way))
+    return rows or [()]
+
+
+def tells(shapes, aim, many):
+    """Whether so many keys felt to the right tell the aim, for shapes of any kind on a ring."""
+    known = {}
+    for hold in holds_of(shapes):
+        known.setdefault(row_of(shapes, hold, many), set()).add(hold[0] if aim == "key" else hold)
+    return all(len(group) == 1 for group in known.values())

@@ -5,6 +5,8 @@ import doctest
 import unittest
 from pathlib import Path
 
+# The names of Python's library that the package may import.
+LIBRARY = {"math": {"comb", "gcd"}, "itertools": {"combinations"}}
 ROOT = Path(__file__).resolve().parent.parent
 SOURCES = sorted((ROOT / "keysfelt").rglob("*.py"))
 
@@ -26,13 +28,14 @@ class SourcesTest(unittest.TestCase):
                     with self.subTest(path=path.name, name=node.name):
                         self.assertLessEqual(node.end_lineno - node.lineno + 1, 40)
 
-    def test_imports_come_from_the_package(self):
+    def test_imports_come_from_the_package_or_are_allowed(self):
         for path in SOURCES:
             for node in ast.walk(ast.parse(path.read_text(encoding="utf-8"))):
                 with self.subTest(path=path.name):
                     self.assertNotIsInstance(node, ast.Import)
-                    if isinstance(node, ast.ImportFrom):
-                        self.assertTrue(node.module.startswith("keysfelt."))
+                    if isinstance(node, ast.ImportFrom) and not node.module.startswith("keysfelt."):
+                        self.assertLessEqual({name.name for name in node.names}, LIBRARY[node.module])
+                        self.assertFalse(any(name.asname for name in node.names))
 
     def test_examples_of_the_readme(self):
         failed, tried = doctest.testfile(str(ROOT / "README.md"), module_relative=False)
