@@ -67,8 +67,7 @@ def rings_with(keys, shapes, pieces):
     check_number(keys, 1, MOST_KEYS_WITH)
     check_number(shapes, 1, MOST_SHAPES_WITH)
     check_pieces(pieces, shapes)
-    least = [row for row in rows_below(keys, shapes) if least_row(row) == row]
-    return [ring for ring in least if all([can_feel(ring, piece) for piece in pieces])]
+    return [ring for ring in least_below(keys, shapes) if all([can_feel(ring, piece) for piece in pieces])]
 
 
 def least_row(row):
@@ -124,6 +123,11 @@ def rows_below(keys, shapes):
     for _ in range(keys):
         rows = [row + (shape,) for row in rows for shape in range(shapes)]
     return rows
+
+
+def least_below(keys, shapes):
+    """The ascending list of the least rings of so many keys with shapes below shapes."""
+    return [row for row in rows_below(keys, shapes) if least_row(row) == row]
 
 
 def with_key(ring, key, shape):

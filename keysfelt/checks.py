@@ -1,6 +1,8 @@
 """Looking at arguments: each check raises the error of the document, or returns nothing."""
 
-from keysfelt.errors import BadAim, BadCounts, BadHold, BadKey, BadNumber, BadPieces, BadRing, BadRings, BadSeen
+from keysfelt.errors import (
+    BadAim, BadCounts, BadHold, BadKey, BadNumber, BadPieces, BadRing, BadRings, BadSeen, BadSide,
+)
 
 MOST_KEYS = 9
 MOST_SHAPE = 8
@@ -9,6 +11,7 @@ MOST_PIECES = 8
 MOST_PIECE = 12
 MOST_RINGS = 6
 AIMS = ("key", "hold")
+SIDES = ("right", "left")
 
 
 def is_integer(value, low, high):
@@ -39,6 +42,11 @@ def is_hold(ring, value):
     return is_integer(key, 0, len(ring) - 1) and is_integer(way, -1, 1) and way != 0
 
 
+def is_side(value):
+    """Whether any value is a side."""
+    return isinstance(value, str) and value in SIDES
+
+
 def check_ring(value):
     """Raise BadRing for a value that is no ring."""
     if not is_ring(value):
@@ -67,6 +75,12 @@ def check_key(ring, value):
     """Raise BadKey for a value that is no key of the ring."""
     if not is_integer(value, 0, len(ring) - 1):
         raise BadKey()
+
+
+def check_side(value):
+    """Raise BadSide for a value that is no side."""
+    if not is_side(value):
+        raise BadSide()
 
 
 def check_counts(value):

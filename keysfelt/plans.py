@@ -5,10 +5,8 @@ plan goes on from one state to the next one. Feeling and Moving tell what the st
 is the same for both. Steps to a side are pairs (shape, state), ascending by their shapes.
 """
 
-from keysfelt.checks import check_aim, check_key, check_ring, is_integer
+from keysfelt.checks import SIDES, check_aim, check_key, check_ring, is_integer, is_side
 from keysfelt.holds import all_holds, are_apart, shape_at
-
-SIDES = ("right", "left")
 
 
 class Feeling:
@@ -24,21 +22,11 @@ class Feeling:
 
     def starts(self):
         """The pairs (shape, state) for the key at the hand."""
-        groups = by_shape(self.ring, all_holds(self.ring), 0)
-        return [(shape, (0, 0, holds)) for shape, holds in groups]
+        return first_felt(self.ring)
 
     def after(self, state, side):
         """The pairs (shape, state) for the next key to a side, none if all keys were felt."""
-        left, right, holds = state
-        if left + right + 1 >= len(self.ring):
-            return []
-        if side == "right":
-            right += 1
-            groups = by_shape(self.ring, holds, right)
-        else:
-            left += 1
-            groups = by_shape(self.ring, holds, -left)
-        return [(shape, (left, right, group)) for shape, group in groups]
+        return next_felt(self.ring, state, side)
 
     def is_end(self, state):
         """Whether the aim is known."""
@@ -114,6 +102,26 @@ def way_to(ring, key):
     return best_plan(Moving(ring, key))[1]
 
 
+def first_felt(ring):
+    """The pairs (shape, state) for the key at the hand, the states as those of Feeling."""
+    groups = by_shape(ring, all_holds(ring), 0)
+    return [(shape, (0, 0, holds)) for shape, holds in groups]
+
+
+def next_felt(ring, state, side):
+    """The pairs (shape, state) for the next key to a side that was not felt, none if all keys were."""
+    left, right, holds = state
+    if left + right + 1 >= len(ring):
+        return []
+    if side == "right":
+        right += 1
+        groups = by_shape(ring, holds, right)
+    else:
+        left += 1
+        groups = by_shape(ring, holds, -left)
+    return [(shape, (left, right, group)) for shape, group in groups]
+
+
 def by_shape(ring, holds, offset):
     """The pairs (shape, tuple of holds): which of the holds feel which shape at an offset."""
     groups = {}
@@ -161,11 +169,6 @@ def steps_of_tree(game, state, value):
         return None
     steps = steps_of_branches(game, pairs, value[1])
     return None if steps is None else steps + 1
-
-
-def is_side(value):
-    """Whether any value is a side."""
-    return isinstance(value, str) and value in SIDES
 
 
 def best_plan(game):

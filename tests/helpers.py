@@ -3,6 +3,7 @@
 from itertools import product
 
 from keysfelt.errors import FeelError
+from keysfelt.hands import Hand
 
 # A value nested sixty deep, as deep as any value can be.
 DEEP_TUPLE = ()
@@ -14,7 +15,7 @@ for _ in range(59):
 ANY_VALUES = [
     None, True, False, -7, 10 ** 40, "", "ring", "key ", "Hold", [], {}, {0: 1}, [0, 1], [(0, ())],
     {"key": ()}, (None,), (True,), ((0, 1),), ("right",), ("right", ()), FeelError(), (FeelError(),),
-    DEEP_TUPLE, DEEP_LIST,
+    Hand((0, 1), 0), (Hand((0, 1), 0),), DEEP_TUPLE, DEEP_LIST,
 ]
 
 WRONG_RINGS = [value for value in ANY_VALUES] + [
@@ -22,8 +23,23 @@ WRONG_RINGS = [value for value in ANY_VALUES] + [
     [0], [0, 1, 2], "012", ((0,), 1), (0, (1,)), (0, [1]),
 ]
 
+# Values that are no plans of any ring.
+NO_PLANS = ANY_VALUES + [0, 1, (), ((),), (((),),), "()", ((0,),), ((0, (), ()),), ((True, ()),), ([0, ()],)]
+
 WRONG_AIMS = [value for value in ANY_VALUES] + [
     0, 1, "KEY", "keys", "k", "holds", "hold\n", ("key",), ["key"], ["hold"], {"key"}, b"key",
+]
+
+WRONG_COUNTS = ANY_VALUES + [
+    (), (0,), (0,) * 9, (0,) * 10, (1,) * 10, (1, 0, 0, 0, 0, 0, 0, 0, 0, 0), (41,), (-1, 2), (40, 1), (20, 21),
+    (0, 41), (5, -1), (True,), (1, False), ("1",), (None, 1), ((1,),), ([1],), [1], [1, 2], 1, 40, "1",
+]
+
+# No pieces with shapes below two.
+WRONG_PIECES = [value for value in ANY_VALUES if value not in ((), ((0, 1),), ((),))] + [
+    0, (0,), (0, 1), [(0,)], ([0],), ((0,), [1]), ((0,), 1), ((0,), None), ((2,),), ((0, 1, 2),), ((0, -1),),
+    ((True,),), ((0, False),), (("0",),), ((None,),), (((0,),),), ("01",), ((0,) * 13,), ((),) * 9, ((0,),) * 9,
+    ((0,),) * 7 + ((2,),),
 ]
 
 
@@ -57,6 +73,10 @@ def wrong_keys(many):
 def all_rings(keys, shapes):
     """All rings of so many keys with shapes below shapes."""
     return list(product(range(shapes), repeat=keys))
+
+
+def counts_up_to(keys, shapes):
+    return [counts for counts in product(range(keys + 1), repeat=shapes) if 1 <= sum(counts) <= keys]
 
 
 def small_rings():
@@ -119,3 +139,72 @@ def tells(shapes, aim, many):
     for hold in holds_of(shapes):
         known.setdefault(row_of(shapes, hold, many), set()).add(hold[0] if aim == "key" else hold)
     return all(len(group) == 1 for group in known.values())
+
+
+def told(aim, holds):
+    return not any(must_differ(aim, one, other) for one in holds for other in holds)
+
+
+def window(ring, hold, left, right):
+    """What is felt from so many keys to the left on to so many to the right."""
+    key, way = hold
+    return row_of(ring, ((key - left * way) % len(ring), way), left + 1 + right)
+
+
+def parts_of(things, shape_of):
+    """The things apart by their shapes."""
+    parts = {}
+    for thing in things:
+        parts.setdefault(shape_of(thing), set()).add(thing)
+    return [frozenset(part) for part in parts.values()]
+
+
+def follow(branches, shape):
+    """The tree for a shape, which stands just once."""
+    trees = [tree for found, tree in branches if found == shape]
+    assert len(trees) == 1
+    return trees[0]
+
+
+def ends_by_hand(ring, branches):
+    """Follow the branches of a plan of point 4 from each hold: which holds feel what, first to last."""
+    ends = {}
+    for hold in holds_of(ring):
+        left = right = 0
+        path = [("first", ring[hold[0]])]
+        tree = follow(branches, ring[hold[0]])
+        while tree:
+            if tree[0] == "right":
+                right += 1
+                shape = window(ring, hold, left, right)[-1]
+            else:
+                left += 1
+                shape = window(ring, hold, left, right)[0]
+            path.append((tree[0], shape))
+            tree = follow(tree[1], shape)
+        ends.setdefault(tuple(path), []).append(hold)
+    return ends
+
+
+def spoiled(value):
+    """Values with one thing wrong each, at every place of a plan or of branches in it."""
+    found = [list(value), value + (value[-1],), value[:-1], value + ((9, ()),), (value,)]
+    if len(value) > 1:
+        found.append(value[::-1])
+    for at, (shape, tree) in enumerate(value):
+        def put(branch):
+            return value[:at] + (branch,) + value[at + 1:]
+        found += [put(branch) for branch in (
+            [shape, tree], (shape, tree, ()), (shape,), (), (shape + 1, tree), (str(shape), tree), (None, tree),
+            (shape, None), (shape, []), (shape, 0), (shape, "right"), (shape, False), (shape, {}),
+        )]
+        if shape < 2:
+            found.append(put((shape == 1, tree)))
+        if tree:
+            side, branches = tree
+            found += [put((shape, changed)) for changed in (
+                (), [side, branches], (side,), (side, branches, ()), (side, ()), ("up", branches), (0, branches),
+                ("Right", branches), (None, branches), (True, branches), ((side,), branches), ([side], branches),
+            )]
+            found += [put((shape, (side, changed))) for changed in spoiled(branches)]
+    return found

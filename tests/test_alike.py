@@ -1,29 +1,15 @@
 """Points 7 to 9: rings that are alike, keys lost and put in, and pieces that were felt."""
 
 import unittest
-from itertools import permutations, product
+from itertools import permutations
 from math import gcd
 
 from keysfelt import alike
 from keysfelt.errors import BadCounts, BadNumber, BadPieces, BadRing, BadSeen, TooMany
 from tests.helpers import (
-    ANY_VALUES, NINE_KEYS, WRONG_RINGS, all_rings, holds_of, row_of, small_rings, turned_and_flipped,
-    wrong_numbers, wrong_rows,
+    NINE_KEYS, WRONG_COUNTS, WRONG_PIECES, WRONG_RINGS, all_rings, counts_up_to, holds_of, row_of, small_rings,
+    turned_and_flipped, wrong_numbers, wrong_rows,
 )
-
-WRONG_COUNTS = ANY_VALUES + [
-    (), (0,), (0,) * 9, (0,) * 10, (1,) * 10, (1, 0, 0, 0, 0, 0, 0, 0, 0, 0), (41,), (-1, 2), (40, 1), (20, 21),
-    (0, 41), (5, -1), (True,), (1, False), ("1",), (None, 1), ((1,),), ([1],), [1], [1, 2], 1, 40, "1",
-]
-WRONG_PIECES = [value for value in ANY_VALUES if value not in ((), ((0, 1),), ((),))] + [
-    0, (0,), (0, 1), [(0,)], ([0],), ((0,), [1]), ((0,), 1), ((0,), None), ((2,),), ((0, 1, 2),), ((0, -1),),
-    ((True,),), ((0, False),), (("0",),), ((None,),), (((0,),),), ("01",), ((0,) * 13,), ((),) * 9, ((0,),) * 9,
-    ((0,),) * 7 + ((2,),),
-]
-
-
-def counts_up_to(keys, shapes):
-    return [counts for counts in product(range(keys + 1), repeat=shapes) if 1 <= sum(counts) <= keys]
 
 
 def rings_of(counts):

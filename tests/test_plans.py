@@ -8,30 +8,11 @@ from keysfelt.errors import BadAim, BadKey, BadRing
 from keysfelt.holds import least_felt
 from keysfelt.plans import Feeling, Moving, depth_of, least_depth, least_moves, moves_of, plan, way_to
 from tests.helpers import (
-    ANY_VALUES, DEEP_LIST, DEEP_TUPLE, NINE_KEYS, WRONG_AIMS, WRONG_RINGS, are_alike, holds_of, must_differ,
-    row_of, small_rings, wrong_keys,
+    DEEP_LIST, DEEP_TUPLE, NINE_KEYS, NO_PLANS, WRONG_AIMS, WRONG_RINGS, are_alike, ends_by_hand, follow, holds_of,
+    parts_of, small_rings, spoiled, told, window, wrong_keys,
 )
 
 AIMS = ("key", "hold")
-NO_PLANS = ANY_VALUES + [0, 1, (), ((),), (((),),), "()", ((0,),), ((0, (), ()),), ((True, ()),), ([0, ()],)]
-
-
-def told(aim, holds):
-    return not any(must_differ(aim, one, other) for one in holds for other in holds)
-
-
-def window(ring, hold, left, right):
-    """What is felt from so many keys to the left on to so many to the right."""
-    key, way = hold
-    return row_of(ring, ((key - left * way) % len(ring), way), left + 1 + right)
-
-
-def parts_of(things, shape_of):
-    """The things apart by their shapes."""
-    parts = {}
-    for thing in things:
-        parts.setdefault(shape_of(thing), set()).add(thing)
-    return [frozenset(part) for part in parts.values()]
 
 
 def slow_least_depth(ring, aim):
@@ -77,35 +58,11 @@ def slow_least_moves(ring, key):
     return None
 
 
-def follow(branches, shape):
-    """The tree for a shape, which stands just once."""
-    trees = [tree for found, tree in branches if found == shape]
-    assert len(trees) == 1
-    return trees[0]
-
-
 def depth_by_hand(ring, aim, branches):
     """Follow the branches from each hold: the most keys felt behind the first one, where the aim is known."""
-    most = 0
-    ends = {}
-    for hold in holds_of(ring):
-        left = right = 0
-        felt_so_far = [ring[hold[0]]]
-        tree = follow(branches, ring[hold[0]])
-        while tree:
-            if tree[0] == "right":
-                right += 1
-                shape = window(ring, hold, left, right)[-1]
-            else:
-                left += 1
-                shape = window(ring, hold, left, right)[0]
-            felt_so_far.append(tree[0])
-            felt_so_far.append(shape)
-            tree = follow(tree[1], shape)
-        most = max(most, left + right)
-        ends.setdefault(tuple(felt_so_far), []).append(hold)
+    ends = ends_by_hand(ring, branches)
     assert all(told(aim, holds) for holds in ends.values())
-    return most
+    return max(len(path) - 1 for path in ends)
 
 
 def moves_by_hand(ring, key, branches):
@@ -121,30 +78,6 @@ def moves_by_hand(ring, key, branches):
         assert hold[0] == key
         most = max(most, moves)
     return most
-
-
-def spoiled(value):
-    """Values with one thing wrong each, at every place of a plan or of branches in it."""
-    found = [list(value), value + (value[-1],), value[:-1], value + ((9, ()),), (value,)]
-    if len(value) > 1:
-        found.append(value[::-1])
-    for at, (shape, tree) in enumerate(value):
-        def put(branch):
-            return value[:at] + (branch,) + value[at + 1:]
-        found += [put(branch) for branch in (
-            [shape, tree], (shape, tree, ()), (shape,), (), (shape + 1, tree), (str(shape), tree), (None, tree),
-            (shape, None), (shape, []), (shape, 0), (shape, "right"), (shape, False), (shape, {}),
-        )]
-        if shape < 2:
-            found.append(put((shape == 1, tree)))
-        if tree:
-            side, branches = tree
-            found += [put((shape, changed)) for changed in (
-                (), [side, branches], (side,), (side, branches, ()), (side, ()), ("up", branches), (0, branches),
-                ("Right", branches), (None, branches), (True, branches), ((side,), branches), ([side], branches),
-            )]
-            found += [put((shape, (side, changed))) for changed in spoiled(branches)]
-    return found
 
 
 class ExamplesTest(unittest.TestCase):
